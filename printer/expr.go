@@ -7,13 +7,38 @@ import (
 	"cleanse/api"
 )
 
-// expr writes an expression.
-func (p *printer) expr(x api.Expr) {
-	p.level++
-	p.levels = max(p.levels, p.level)
-	if p.level > deepest {
-		panic(api.ErrLimit)
+// expr writes an expression. One beyond the limit of levels waits: there may be more levels below it than calls can be nested.
+func (p *printer) expr(x *api.Expr) {
+	if p.level == api.MaxDepth {
+		p.wait(x)
+		return
 	}
+	p.level++
+	p.operation(*x)
+	p.level--
+}
+
+// wait notes an expression beyond the limit of levels, unless it was met before: a tree may contain itself.
+func (p *printer) wait(x *api.Expr) {
+	if !p.isMet[x] {
+		p.isMet[x] = true
+		p.waiting = append(p.waiting, x)
+	}
+}
+
+// tooDeep writes the expressions beyond the limit of levels one by one, their kids after them. Such a text is not returned, but they have to be printable.
+func (p *printer) tooDeep() {
+	p.level = api.MaxDepth
+	for len(p.waiting) > 0 {
+		last := len(p.waiting) - 1
+		x := p.waiting[last]
+		p.waiting = p.waiting[:last]
+		p.operation(*x)
+	}
+}
+
+// operation writes an expression by its kind.
+func (p *printer) operation(x api.Expr) {
 	require(x.Kind >= api.ExprTable && x.Kind <= api.ExprGroup)
 	write := [...]func(p *printer, x api.Expr){
 		api.ExprTable:   (*printer).relation,
@@ -26,7 +51,6 @@ func (p *printer) expr(x api.Expr) {
 		api.ExprGroup:   (*printer).grouping,
 	}
 	write[x.Kind](p, x)
-	p.level--
 }
 
 // relation writes the name of a table.
@@ -85,7 +109,12 @@ func (p *printer) grouping(x api.Expr) {
 func (p *printer) begin(word string, kids []api.Expr, count int) {
 	require(len(kids) == count)
 	p.put(word, "(")
-	list(p, ",", kids, p.expr)
+	for i := range kids {
+		if i > 0 {
+			p.put(",")
+		}
+		p.expr(&kids[i])
+	}
 }
 
 // on writes the attributes of an operation, if there are any.

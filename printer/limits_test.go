@@ -239,24 +239,72 @@ func TestRefusedAtLevels(t *testing.T) {
 	}
 }
 
-// P1: trees of 2^16 levels have an error: what is not printable at the last one is found.
+// chain returns an expression of so many levels by a binary operation, in one of its kids, with a table or something else at the last one.
+func chain(kind, kid, levels int, inner api.Expr) api.Expr {
+	x := inner
+	for range levels - 1 {
+		pair := kids("t", "t")
+		pair[kid] = x
+		x = api.Expr{Kind: kind, Kids: pair}
+	}
+	return x
+}
+
+// checkBig checks the error for a tree that is too big to be shown.
+func checkBig(t *testing.T, p api.Program, want api.Errno) {
+	t.Helper()
+	if got, err := printer.Print(p); err != want || got != "" {
+		t.Errorf("error %d, not %d", err, want)
+	}
+}
+
+// P1, P9.1: however many levels there are, what is not printable is found at the last one, beside it, and behind all of them.
 func TestManyLevels(t *testing.T) {
-	for kid := range 2 {
-		for inner, want := range map[string]api.Errno{"t": api.ErrLimit, "1": api.ErrArg} {
-			x := relation(inner)
-			for range 1<<16 - 1 {
-				pair := kids("t", "t")
-				pair[kid] = x
-				x = api.Expr{Kind: api.ExprJoin, Kids: pair}
-			}
-			if _, err := printer.Print(program(query(x))); err != want {
-				t.Errorf("error %d, not %d", err, want)
-			}
+	for _, levels := range []int{1 << 16, 1<<17 - 1, 1 << 17, 1<<17 + 1, 1<<17 + 2} {
+		for kid := range 2 {
+			good := query(chain(api.ExprJoin, kid, levels, relation("t")))
+			checkBig(t, program(good), api.ErrLimit)
+			checkBig(t, program(good, origin("s")), api.ErrLimit)
+			checkBig(t, program(good, api.Item{}), api.ErrArg)
+			checkBig(t, program(good, query(relation("1"))), api.ErrArg)
+			checkBig(t, program(query(chain(api.ExprUnion, kid, levels, api.Expr{}))), api.ErrArg)
+			checkBig(t, program(query(chain(api.ExprMinus, kid, levels, relation("1")))), api.ErrArg)
+			good.Expr.Kids[1-kid].Table = ""
+			checkBig(t, program(good), api.ErrArg)
 		}
 	}
 }
 
-// P1: a tree that contains itself has levels without an end.
+// P1: a tree of a million levels, each of which is an operation with one kid, has an error.
+func TestMillionLevels(t *testing.T) {
+	for inner, want := range map[string]api.Errno{"t": api.ErrLimit, "": api.ErrArg} {
+		x := relation(inner)
+		for range 1000000 - 1 {
+			x = api.Expr{Kind: api.ExprProject, Kids: []api.Expr{x}}
+		}
+		checkBig(t, program(query(x)), want)
+	}
+}
+
+// P1: kids may be the same ones in many places, so that a tree that takes little memory has more parts than can be counted.
+func TestSharedKids(t *testing.T) {
+	for inner, want := range map[string]api.Errno{"t": api.ErrLimit, "1": api.ErrArg} {
+		x := relation(inner)
+		for range 200 {
+			x = api.Expr{Kind: api.ExprUnion, Kids: []api.Expr{x, x}}
+		}
+		checkBig(t, program(query(x)), want)
+		checkBig(t, program(query(x), query(x), origin("s")), want)
+		checkBig(t, program(query(x), query(x), origin("")), api.ErrArg)
+	}
+	// A project has the first one of the kids of a join.
+	pair := kids("t", "")
+	first := query(chain(api.ExprJoin, 0, 13, api.Expr{Kind: api.ExprProject, Kids: pair[:1]}))
+	checkBig(t, program(first), api.ErrLimit)
+	checkBig(t, program(first, query(chain(api.ExprJoin, 0, 13, api.Expr{Kind: api.ExprJoin, Kids: pair}))), api.ErrArg)
+}
+
+// P1: a tree that contains itself has levels without an end. What is not printable in it is found as well.
 func TestCircles(t *testing.T) {
 	for i := range operations(relation("t"), relation("t")) {
 		list := kids("t", "t")
@@ -264,11 +312,17 @@ func TestCircles(t *testing.T) {
 		x.Kids = list[:len(x.Kids)]
 		for kid := range x.Kids {
 			list[kid] = x
-			if got, err := printer.Print(program(query(x))); err != api.ErrLimit || got != "" {
-				t.Errorf("the kind %d in itself: error %d", x.Kind, err)
-			}
+			checkBig(t, program(query(x)), api.ErrLimit)
+			list[kid].Table = "t"
+			checkBig(t, program(query(x)), api.ErrArg)
+			list[kid].Table = ""
 		}
 	}
+	pair := kids("t", "t")
+	pair[0] = chain(api.ExprMinus, 1, 1000, api.Expr{Kind: api.ExprJoin, Kids: pair})
+	checkBig(t, program(query(pair[0])), api.ErrLimit)
+	pair[1].Table = ""
+	checkBig(t, program(query(pair[0])), api.ErrArg)
 }
 
 // P9.3: a text within the limits may have a tree whose text is beyond that of bytes, as blanks are written that need not be; it is never beyond the others.
